@@ -1,0 +1,1 @@
+"""Warmove: programs carried to another house while they run."""
