@@ -12,6 +12,10 @@ DEFINED = {
     "errors.py": ["MoveError", "TooMany", "NoHouse", "NoLetter", "NoStep", "NoRow", "NoText"],
     "programs.py": ["is_program", "is_stand"],
     "ticks.py": ["tick"],
+    "runs.py": ["run", "touches", "trace"],
+    "rings.py": ["round_of"],
+    "rounds.py": ["rounds"],
+    "plans.py": ["left_by", "is_plan", "carried_by"],
 }
 
 BARRED_WORDS = re.compile(
