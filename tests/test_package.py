@@ -16,6 +16,12 @@ DEFINED = {
     "rings.py": ["round_of"],
     "rounds.py": ["rounds"],
     "plans.py": ["left_by", "is_plan", "carried_by"],
+    "stops.py": ["bars", "plan_for", "earliest", "least_left"],
+    "forever.py": ["ever", "shows_never"],
+    "fetched.py": ["fetched", "asked_for", "least_lost"],
+    "handed.py": [
+        "is_rulebook", "stand_behind", "two_run", "runs_on", "is_two_run", "is_runs_on", "changes", "rulebook",
+    ],
 }
 
 BARRED_WORDS = re.compile(

@@ -18,9 +18,9 @@ def left_by(n, trace, plan):
     return outdated(n, trace, last_copyings(copies, stop), stop)
 
 
-def is_rising(copies):
-    """Tell whether copies are sorted, none of them twice."""
-    return all(one < other for one, other in zip(copies, copies[1:]))
+def is_rising(things):
+    """Tell whether things are sorted, none of them twice."""
+    return all(one < other for one, other in zip(things, things[1:]))
 
 
 def most_at_a_tick(copies):

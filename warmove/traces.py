@@ -16,3 +16,11 @@ def outdated(n, trace, copied, stop):
     written = last_writings(n, trace, stop)
     # A tick copies first and writes then: what is written at the tick of its copying is written behind it.
     return [p for p in range(n) if p not in copied or written[p] >= copied[p]]
+
+
+def writings_by_stop(n, trace):
+    """Tell, for each stop from 0 to the trace's length, the last writings ahead of it."""
+    told = [[-1] * n]
+    for tick, written in enumerate(trace):
+        told.append([tick if p in written else last for p, last in enumerate(told[-1])])
+    return told
